@@ -1,0 +1,1 @@
+"""Tunings and commas, exactly: commabook.book.answers(calls) answers a list of calls."""
