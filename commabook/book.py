@@ -3,6 +3,7 @@
 from commabook.comma_calls import comma_answer
 from commabook.reading import cut_apart
 from commabook.row_calls import is_row_call, row_answer
+from commabook.scale_calls import is_scale_call, scale_answer
 from commabook.state import Book
 
 
@@ -10,6 +11,8 @@ def answer_of_call(book, number, numbers, lists):
     """The numbers that one call answers, made on the book."""
     if is_row_call(number):
         return row_answer(number, numbers, lists)
+    if is_scale_call(number):
+        return scale_answer(book, number, numbers, lists)
     return comma_answer(book, number, numbers, lists)
 
 

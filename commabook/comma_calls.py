@@ -1,9 +1,9 @@
-"""The calls 9 to 12, which keep commas and ask of them.
+"""The calls 9 to 14, which keep commas and ask of them.
 
 Each takes the book, its whole numbers and its lists, and gives the numbers that are answered.
 """
 
-from commabook.commas import are_alike, rank
+from commabook.commas import are_alike, least_division, least_multiple, rank
 from commabook.refusals import TOO_MANY, WRONG
 from commabook.rows import is_sound
 
@@ -39,11 +39,28 @@ def call_alike(book, numbers, lists):
     return [1 if are_alike(a, b, book.commas) else 0]
 
 
+def call_round(book, numbers, lists):
+    """13 round (x)."""
+    x = lists[0]
+    if not is_sound(x):
+        return [WRONG]
+    return [least_multiple(x, book.commas)]
+
+
+def call_divide(book, numbers, lists):
+    """14 divide (n)."""
+    if numbers[0] < 0:
+        return [WRONG]
+    return [least_division(numbers[0], book.commas)]
+
+
 COMMA_CALLS = {
     9: call_temper,
     10: call_clear,
     11: call_rank,
     12: call_alike,
+    13: call_round,
+    14: call_divide,
 }
 
 

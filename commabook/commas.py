@@ -1,6 +1,7 @@
 """What commas make alike: the sums of rows, each taken a whole number of times."""
 
-from commabook.rows import PRIMES, combined, zeros
+from commabook.rows import PRIMES, combined, mapped, zeros
+from commabook.sizes import MOST_STEPS, val
 
 
 def divided_out(first, second, column):
@@ -33,18 +34,42 @@ def rank(commas):
     return len([column for column in range(len(PRIMES)) if rows[column][column] != 0])
 
 
-def is_whole_sum(row, commas):
-    """Whether the row is a sum of the commas, each taken a whole number of times."""
+def common_divisor(first, second):
+    """The greatest number that divides both, which aren't 0."""
+    kept = abs(first)
+    left = abs(second)
+    while left != 0:
+        rest = kept % left
+        kept = left
+        left = rest
+    return kept
+
+
+def least_multiple(row, commas):
+    """The least whole number from 1 on by which the row becomes a whole sum of the commas; 0 if there's none."""
+    times = 1
     left = row
     for column, stair in enumerate(stairs(commas)):
-        # only this stair and those behind it can still change the column, and those behind are 0 in it
+        # only this stair and those behind it can still change the column, and those behind are 0 in it:
+        # so every multiple that is a whole sum is a multiple of the one taken here
         if left[column] != 0:
-            if stair[column] == 0 or left[column] % stair[column] != 0:
-                return False
-            left = combined(1, left, -(left[column] // stair[column]), stair)
-    return True
+            if stair[column] == 0:
+                return 0
+            more = abs(stair[column]) // common_divisor(left[column], stair[column])
+            times = times * more
+            left = combined(more, left, -(more * left[column] // stair[column]), stair)
+    return times
 
 
 def are_alike(a, b, commas):
     """Whether the commas make rows a and b alike."""
-    return is_whole_sum(combined(1, a, -1, b), commas)
+    return least_multiple(combined(1, a, -1, b), commas) == 1
+
+
+def least_division(n, commas):
+    """The least k from n on, from 1 to 100, by whose val each comma is mapped to 0; 0 if there's none."""
+    for k in range(max(n, 1), MOST_STEPS + 1):
+        division = val(k)
+        if all([mapped(division, comma) == 0 for comma in commas]):
+            return k
+    return 0

@@ -3,7 +3,9 @@
 WRONG = -1
 HIGH_PRIME = -2
 UNSOUND = -4
+NO_SCALE = -5
 TOO_MANY = -6
+FAULT = -8
 
 
 def all_within(numbers, least, most):

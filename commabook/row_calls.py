@@ -1,18 +1,24 @@
-"""The calls 0 to 8, which ask of rows alone.
+"""The calls 0 to 8 and 22 to 24, which ask of rows alone.
 
 Each takes its whole numbers and its lists, and gives the numbers that are answered.
 """
 
+from commabook.leading import least_leading
+from commabook.listing import fractions_between, told_fractions
 from commabook.refusals import HIGH_PRIME, UNSOUND, WRONG, all_within
 from commabook.rows import MEASURES, PRIMES, arranged, combined, has_high_prime, is_sound, lower_number, mapped
-from commabook.rows import measure, row_of, rows_within, upper_number
-from commabook.sizes import nearest_steps, order, val
+from commabook.rows import least_numbers, measure, row_of, rows_within, upper_number
+from commabook.sizes import MOST_STEPS, nearest_steps, order, val
 
 LARGEST_NUMBER = 1000000000000000000
 MOST_TIMES = 1000
-MOST_STEPS = 100
 LARGEST_MAPPED = 1000000
 MOST_ARRANGED = 20
+MOST_IN_CHORD = 8
+MOST_LED = 5
+LARGEST_PRODUCT = 500
+ALL_PRIMES = 63
+MOST_ANSWERS = 20
 
 
 def call_of(numbers, lists):
@@ -92,14 +98,46 @@ def call_measure(numbers, lists):
     return [measure(numbers[0], x)]
 
 
+def are_sound(rows, least, most):
+    """Whether there are from least to most rows, each of them sound."""
+    return least <= len(rows) <= most and all([is_sound(row) for row in rows])
+
+
 def call_arrange(numbers, lists):
     """8 arrange (k, rows)."""
     rows = rows_within(lists[0])
-    if not all_within(numbers, 0, MEASURES - 1) or len(rows) > MOST_ARRANGED:
-        return [WRONG]
-    if not all([is_sound(row) for row in rows]):
+    if not all_within(numbers, 0, MEASURES - 1) or not are_sound(rows, 0, MOST_ARRANGED):
         return [WRONG]
     return [len(rows)] + arranged(numbers[0], rows)
+
+
+def call_chord(numbers, lists):
+    """22 chord (rows)."""
+    rows = rows_within(lists[0])
+    if not are_sound(rows, 1, MOST_IN_CHORD):
+        return [WRONG]
+    return least_numbers(rows)
+
+
+def call_lead(numbers, lists):
+    """23 lead (a, b)."""
+    a = rows_within(lists[0])
+    b = rows_within(lists[1])
+    if not are_sound(a, 1, MOST_LED) or not are_sound(b, len(a), len(a)):
+        return [WRONG]
+    return least_leading(a, b)
+
+
+def call_each(numbers, lists):
+    """24 each (most, primes, low, high, answers)."""
+    low = lists[0]
+    high = lists[1]
+    given = lists[2]
+    if not 0 <= numbers[0] <= LARGEST_PRODUCT or not 0 <= numbers[1] <= ALL_PRIMES:
+        return [WRONG]
+    if not is_sound(low) or not is_sound(high) or len(given) > MOST_ANSWERS:
+        return [WRONG]
+    return told_fractions(fractions_between(numbers[0], numbers[1], low, high), given)
 
 
 ROW_CALLS = {
@@ -112,6 +150,9 @@ ROW_CALLS = {
     6: call_map,
     7: call_measure,
     8: call_arrange,
+    22: call_chord,
+    23: call_lead,
+    24: call_each,
 }
 
 

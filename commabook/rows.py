@@ -61,6 +61,12 @@ def lower_number(row):
     return upper_number([-exponent for exponent in row])
 
 
+def least_numbers(rows):
+    """The whole numbers without a common divisor that are to one another as the rows' fractions are."""
+    lowest = [min([row[place] for row in rows]) for place in range(len(PRIMES))]
+    return [upper_number(combined(1, row, -1, lowest)) for row in rows]
+
+
 def times_within(prime, number):
     """How many times the prime divides the number, from 1 on."""
     times = 0

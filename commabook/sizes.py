@@ -5,6 +5,8 @@ from commabook.rows import PRIMES, combined, lower_number, power, row_of, upper_
 LOWER = 0
 SAME = 1
 HIGHER = 2
+# the most parts that an octave is divided into
+MOST_STEPS = 100
 
 
 def order(a, b):

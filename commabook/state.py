@@ -8,6 +8,7 @@ class Book:
 
     def __init__(self):
         self.commas = []
+        self.notes = []
 
     def is_full(self):
         """Whether no comma more can be kept."""
@@ -20,3 +21,11 @@ class Book:
     def drop_commas(self):
         """Keep no commas."""
         self.commas = []
+
+    def has_scale(self):
+        """Whether there's a scale: one has a note at least."""
+        return len(self.notes) > 0
+
+    def take_scale(self, notes):
+        """Make the scale that of the notes."""
+        self.notes = [list(note) for note in notes]

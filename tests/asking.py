@@ -86,6 +86,61 @@ def alike(a, b):
     return [12] + listed(a) + listed(b)
 
 
+def round_of(x):
+    return [13] + listed(x)
+
+
+def divide(n):
+    return [14, n]
+
+
+def read_bytes(numbers):
+    return [15] + listed(numbers)
+
+
+def read(text):
+    """text: as Python's own text."""
+    return read_bytes([ord(sign) for sign in text])
+
+
+def write():
+    return [16]
+
+
+def degree(k):
+    return [17, k]
+
+
+def near(x):
+    return [18] + listed(x)
+
+
+def mode(k):
+    return [19, k]
+
+
+def shape():
+    return [20]
+
+
+def kind():
+    return [21]
+
+
+def chord(rows):
+    """rows: one list with six numbers for each."""
+    return [22] + listed(rows)
+
+
+def lead(a, b):
+    """a, b: one list each, with six numbers for each row."""
+    return [23] + listed(a) + listed(b)
+
+
+def each(most, primes, low, high, given=()):
+    return [24, most, primes] + listed(low) + listed(high) + listed(given)
+
+
 def joined(rows):
     """The rows one behind another in one list."""
     return [number for row in rows for number in row]
@@ -123,3 +178,44 @@ def fraction(row):
     for prime, exponent in zip(PRIMES, row):
         product *= Fraction(prime) ** exponent
     return product
+
+
+def row_of(whole):
+    """The row of a fraction that has no prime above 13."""
+    row = []
+    up = whole.numerator
+    down = whole.denominator
+    for prime in PRIMES:
+        exponent = 0
+        while up % prime == 0:
+            up //= prime
+            exponent += 1
+        while down % prime == 0:
+            down //= prime
+            exponent -= 1
+        row.append(exponent)
+    if (up, down) != (1, 1):
+        raise AssertionError(f"no row: {whole}")
+    return row
+
+
+def text_of(notes):
+    """A scale's text, as the document writes it, of rows."""
+    return " ".join(str(fraction(note)) for note in notes)
+
+
+def notes_of(text):
+    """The rows of the fractions in a text."""
+    return [row_of(Fraction(word)) for word in text.split()]
+
+
+def told_text(answer):
+    """The text that write answered, which has its count ahead."""
+    if answer[0] != len(answer) - 1:
+        raise AssertionError(f"the count doesn't fit: {answer}")
+    return "".join(chr(byte) for byte in answer[1:])
+
+
+def scale_after(*calls):
+    """The text of the scale that is there behind the calls."""
+    return told_text(ask(*calls, write())[-1])

@@ -36,6 +36,10 @@ WORDS_OUT = re.compile(
     r"|NamedTuple|TypedDict|TYPE_CHECKING|abstractmethod)\b|dataclass|overload|contextmanager"
 )
 DOUBLE = ("__init__", "__eq__", "__repr__", "__str__", "__len__")
+KEYWORDS = {
+    "sorted": ("key", "reverse"), "min": ("key", "default"), "max": ("key", "default"), "sum": ("start",),
+    "enumerate": ("start",), "zip": ("strict",),
+}
 WALKED = ("zip", "enumerate", "reversed", "range")
 WALKERS = ("list", "tuple", "dict", "sorted", "sum", "any", "all", "enumerate", "zip", "min", "max")
 
@@ -212,6 +216,56 @@ class LanguageTest(unittest.TestCase):
             for node in ast.walk(tree):
                 if isinstance(node, ast.Call) and isinstance(node.func, ast.Name) and node.func.id in WALKED:
                     self.assertIn(node, walked, f"{name}:{node.lineno}")
+
+    def test_sets_are_not_kept(self):
+        for name, tree in self.trees.items():
+            asked = set()
+            for node in ast.walk(tree):
+                if isinstance(node, ast.Call) and isinstance(node.func, ast.Name) and node.func.id in ("len", "sorted"):
+                    if not node.keywords:
+                        asked.update(node.args)
+                if isinstance(node, ast.Compare) and isinstance(node.ops[0], (ast.In, ast.NotIn, ast.Eq, ast.NotEq)):
+                    asked.update([node.left] + node.comparators)
+            for node in ast.walk(tree):
+                if isinstance(node, ast.Call) and isinstance(node.func, ast.Name) and node.func.id in ("set", "frozenset"):
+                    self.assertIn(node, asked, f"{name}:{node.lineno}")
+
+    def test_keywords(self):
+        functions = {node.name for place, node in self.nodes(ast.FunctionDef)}
+        for place, node in self.nodes(ast.Call):
+            for keyword in node.keywords:
+                self.assertIsInstance(node.func, ast.Name, place)
+                if node.func.id not in functions:
+                    self.assertIn(keyword.arg, KEYWORDS.get(node.func.id, ()), place)
+
+    def test_what_is_walked_is_not_changed(self):
+        changes = ("append", "clear", "extend", "insert", "pop", "remove", "reverse", "setdefault", "update")
+        for place, loop in self.nodes(ast.For):
+            walked = {node.id for node in ast.walk(loop.iter) if isinstance(node, ast.Name)}
+            for node in [node for part in loop.body for node in ast.walk(part)]:
+                if isinstance(node, ast.Call) and isinstance(node.func, ast.Attribute) and node.func.attr in changes:
+                    if isinstance(node.func.value, ast.Name):
+                        self.assertNotIn(node.func.value.id, walked, place)
+                if isinstance(node, ast.Subscript) and isinstance(node.ctx, ast.Store):
+                    self.assertNotIn(getattr(node.value, "id", None), walked, place)
+
+    def test_lists_of_the_top_are_only_read(self):
+        for name, tree in self.trees.items():
+            kept = [
+                node.targets[0].id for node in tree.body
+                if isinstance(node, ast.Assign) and isinstance(node.value, (ast.Dict, ast.List))
+            ]
+            read = set()
+            for node in ast.walk(tree):
+                if isinstance(node, ast.Subscript) and isinstance(node.ctx, ast.Load):
+                    read.add(node.value)
+                if isinstance(node, ast.Compare):
+                    read.update(node.comparators)
+                if isinstance(node, (ast.For, ast.comprehension)):
+                    read.add(node.iter)
+            for node in ast.walk(tree):
+                if isinstance(node, ast.Name) and isinstance(node.ctx, ast.Load) and node.id in kept:
+                    self.assertIn(node, read, f"{name}:{node.lineno}")
 
     def test_every_function_says_what_it_is(self):
         for place, node in self.nodes(ast.FunctionDef, ast.ClassDef):
